@@ -11,7 +11,10 @@ import (
 // The kinds of wrong, to be asked for with errors.Is.
 var (
 	Long   = errors.New("longer than may be")
-	Name   = errors.New("no name")
+	Syntax = errors.New("no word or bracket that can stand here")
+	Deep   = errors.New("within too many others")
+	Twice  = errors.New("there already")
+	Name   = errors.New("no name, or one that stands for nothing")
 	Short  = errors.New("ends too early")
 	Sum    = errors.New("not the sum of the bytes ahead of it")
 	Form   = errors.New("cannot stand here")
@@ -37,7 +40,7 @@ func (f Fault) Error() string {
 // Unwrap gives the kind, so that errors.Is finds it.
 func (f Fault) Unwrap() error { return f.Kind }
 
-// At is a fault at a byte of a file.
+// At is a fault at a byte of a text or file.
 func At(kind error, at int) error {
 	return Fault{Kind: kind, Place: api.Place{At: at}}
 }

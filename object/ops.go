@@ -67,6 +67,9 @@ func KindOf(op int) Kind { return rows[op].kind }
 // Bounds tells the least and the most that A may be, of an Op whose kind is Bound.
 func Bounds(op int) (int, int) { return rows[op].least, rows[op].most }
 
+// PackOf is A of the Pack that makes a record with this tag and so many fields.
+func PackOf(tag, fields int) int { return tag*packTag + fields }
+
 // amount is what the needs of an instruction are counted by.
 func amount(i api.Ins) int {
 	if i.Op == api.Pack {
@@ -80,11 +83,11 @@ func fits(i api.Ins, d int) bool {
 	if i.Op == api.Unwind {
 		return d == rows[i.Op].need
 	}
-	return d >= rows[i.Op].need+rows[i.Op].needEach*amount(i) && behind(i, d) <= api.MaxStack
+	return d >= rows[i.Op].need+rows[i.Op].needEach*amount(i) && Behind(i, d) <= api.MaxStack
 }
 
-// behind is how many cells there are behind an instruction that was done with d.
-func behind(i api.Ins, d int) int {
+// Behind is how many cells there are behind an instruction that was done with d.
+func Behind(i api.Ins, d int) int {
 	return d + rows[i.Op].more + rows[i.Op].moreEach*amount(i)
 }
 

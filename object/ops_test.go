@@ -39,3 +39,11 @@ func TestBounds(t *testing.T) {
 		}
 	}
 }
+
+func TestPackOf(t *testing.T) {
+	for _, c := range [][3]int{{0, 0, 0}, {0, 20, 20}, {1, 0, 256}, {255, 255, 65535}} {
+		if got := PackOf(c[0], c[1]); got != c[2] {
+			t.Errorf("PackOf(%d, %d) = %d, want %d", c[0], c[1], got, c[2])
+		}
+	}
+}

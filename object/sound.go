@@ -115,7 +115,7 @@ func (w *walk) leave(at int) {
 		if !fits(i, d) {
 			return
 		}
-		d = behind(i, d)
+		d = Behind(i, d)
 	}
 	switch i.Op {
 	case api.Unwind, api.Fail:

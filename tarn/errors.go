@@ -23,8 +23,14 @@ func kind(err error) api.Errno {
 		return api.OK
 	case errors.Is(err, fault.Long):
 		return api.ErrLong
+	case errors.Is(err, fault.Syntax):
+		return api.ErrSyntax
+	case errors.Is(err, fault.Deep):
+		return api.ErrDeep
 	case errors.Is(err, fault.Name):
 		return api.ErrName
+	case errors.Is(err, fault.Twice):
+		return api.ErrTwice
 	case errors.Is(err, fault.Short):
 		return api.ErrShort
 	case errors.Is(err, fault.Sum):

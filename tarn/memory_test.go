@@ -2,7 +2,9 @@ package tarn
 
 import (
 	"reflect"
+	"strings"
 	"testing"
+	"unsafe"
 
 	"tarn/api"
 )
@@ -103,59 +105,114 @@ func twoCases() api.Object {
 	}
 }
 
-func TestWhatComesOutIsTheCallers(t *testing.T) {
+// manyLists is a text whose object has imports, several globals and several Alts in each.
+const manyLists = "(module m (import x 0) (import y 2) (import z 0) (def a (p) (p (case p (0 () x) (1 () y) (2 (k) (+ k 1))) (case z (3 () x) (1 () y)))) (def b () (case x (0 () (case y (0 () 1) (1 () 2))) (7 () (a 1)))))"
+
+// makers give one and the same object at each call.
+func makers(t *testing.T) map[string]func() api.Object {
 	s, _ := Encode(twoCases())
-	first, e, _ := Decode(s)
-	second, _, _ := Decode(s)
-	if e != api.OK {
-		t.Fatalf("P5: %d", e)
+	return map[string]func() api.Object{
+		"Decode": func() api.Object {
+			o, e, at := Decode(s)
+			if e != api.OK {
+				t.Fatalf("P5: %d, %+v", e, at)
+			}
+			return o
+		},
+		"Compile": func() api.Object {
+			o, e, at := Compile(manyLists)
+			if e != api.OK {
+				t.Fatalf("P7: %d, %d", e, at)
+			}
+			return o
+		},
 	}
-	fill(first)
-	if !reflect.DeepEqual(second, twoCases()) {
-		t.Error("P2: two answers share memory")
+}
+
+func TestWhatComesOutIsTheCallers(t *testing.T) {
+	for what, make := range makers(t) {
+		first, second := make(), make()
+		want, e := Encode(second)
+		if e != api.OK {
+			t.Fatalf("P4: %d", e)
+		}
+		fill(first)
+		if got, e := Encode(second); got != want || e != api.OK {
+			t.Errorf("P2: two answers of %s share memory", what)
+		}
+		if got, e := Encode(make()); got != want || e != api.OK {
+			t.Errorf("P2: an answer of %s that was written into changes a later one", what)
+		}
 	}
-	third, e, _ := Decode(s)
-	if e != api.OK || !reflect.DeepEqual(third, twoCases()) {
-		t.Error("P2: an answer that was written into changes a later one")
-	}
-	if again, e := Encode(twoCases()); again != s || e != api.OK {
-		t.Error("P2: an answer that was written into changes a later file")
+	if got := makers(t)["Decode"](); !reflect.DeepEqual(got, twoCases()) {
+		t.Errorf("P5: %+v", got)
 	}
 }
 
 // TestNoTwoListsShare: what is written into one list of an answer, and into its spare room, is seen in no other.
 func TestNoTwoListsShare(t *testing.T) {
-	s, _ := Encode(twoCases())
-	lists := 0
-	each := func(write func(o api.Object) (clean func(o api.Object))) {
-		got, _, _ := Decode(s)
-		want := twoCases()
-		clean := write(got)
-		clean(got)
-		clean(want)
-		if !reflect.DeepEqual(got, want) {
-			t.Errorf("P2: list %d shares memory with another one", lists)
+	for what, make := range makers(t) {
+		lists := 0
+		each := func(write func(o api.Object) (clean func(o api.Object))) {
+			got, want := make(), make()
+			clean := write(got)
+			clean(got)
+			clean(want)
+			if !reflect.DeepEqual(got, want) {
+				t.Errorf("P2: list %d of %s shares memory with another one", lists, what)
+			}
+			lists++
 		}
-		lists++
-	}
-	each(func(o api.Object) func(api.Object) {
-		fillList(o.Imports, markImport)
-		return func(o api.Object) { clear(o.Imports) }
-	})
-	for k, g := range twoCases().Globals {
-		for i := range g.Code {
+		each(func(o api.Object) func(api.Object) {
+			fillList(o.Imports, markImport)
+			return func(o api.Object) { clear(o.Imports) }
+		})
+		for k, g := range make().Globals {
+			for i := range g.Code {
+				each(func(o api.Object) func(api.Object) {
+					fillList(o.Globals[k].Code[i].Alts, markAlt)
+					return func(o api.Object) { clear(o.Globals[k].Code[i].Alts) }
+				})
+			}
 			each(func(o api.Object) func(api.Object) {
-				fillList(o.Globals[k].Code[i].Alts, markAlt)
-				return func(o api.Object) { clear(o.Globals[k].Code[i].Alts) }
+				fillList(o.Globals[k].Code, markIns)
+				return func(o api.Object) { clear(o.Globals[k].Code) }
 			})
 		}
 		each(func(o api.Object) func(api.Object) {
-			fillList(o.Globals[k].Code, markIns)
-			return func(o api.Object) { clear(o.Globals[k].Code) }
+			fillList(o.Globals, markGlobal)
+			return func(o api.Object) { clear(o.Globals) }
 		})
 	}
-	each(func(o api.Object) func(api.Object) {
-		fillList(o.Globals, markGlobal)
-		return func(o api.Object) { clear(o.Globals) }
-	})
+}
+
+// within: whether the text's memory is a part of the other's.
+func within(part, whole string) bool {
+	at, from := uintptr(unsafe.Pointer(unsafe.StringData(part))), uintptr(unsafe.Pointer(unsafe.StringData(whole)))
+	return from <= at && at < from+uintptr(len(whole))
+}
+
+// TestNamesAreNew: an answer keeps nothing of the text or file that it was made of.
+func TestNamesAreNew(t *testing.T) {
+	text := strings.Clone(rich)
+	fromText, _, _ := Compile(text)
+	file, _ := Encode(whole())
+	fromFile, _, _ := Decode(file)
+	for _, o := range []api.Object{fromText, fromFile} {
+		all := []string{o.Name}
+		for _, i := range o.Imports {
+			all = append(all, i.Name)
+		}
+		for _, g := range o.Globals {
+			all = append(all, g.Name)
+		}
+		if len(all) < 4 {
+			t.Fatalf("P1: %+v", o)
+		}
+		for _, n := range all {
+			if within(n, text) || within(n, file) {
+				t.Errorf("P2: %q lies in what was handed in", n)
+			}
+		}
+	}
 }

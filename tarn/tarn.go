@@ -3,18 +3,29 @@ package tarn
 
 import (
 	"tarn/api"
+	"tarn/compile"
 	"tarn/object"
 	"tarn/objfile"
+	"tarn/syntax"
 )
 
 // Image: modules that were linked.
 type Image struct{}
 
 // Check looks at a module's text (P6).
-func Check(text string) (api.Errno, int) { return api.OK, 0 }
+func Check(text string) (api.Errno, int) {
+	_, err := syntax.Read(text)
+	return kind(err), place(err).At
+}
 
 // Compile makes an object of a module's text (P7).
-func Compile(text string) (api.Object, api.Errno, int) { return api.Object{}, api.OK, 0 }
+func Compile(text string) (api.Object, api.Errno, int) {
+	m, err := syntax.Read(text)
+	if err != nil {
+		return api.Object{}, kind(err), place(err).At
+	}
+	return compile.Module(m), api.OK, 0
+}
 
 // Sound looks at an object (P3).
 func Sound(o api.Object) (api.Errno, api.Place) {
