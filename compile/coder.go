@@ -83,7 +83,7 @@ func (c *coder) value(e syntax.Expr) {
 	case syntax.Name, syntax.Call:
 		c.graph(e)
 		c.put(api.Eval, 0)
-	default:
+	default: // a number or record is its own value
 		c.graph(e)
 	}
 }
@@ -109,12 +109,14 @@ func (c *coder) graph(e syntax.Expr) {
 		c.bind(x)
 		c.graph(x.Body)
 		c.leave(len(x.Names))
-	default:
+	default: // an op or case
 		c.wait(e)
 	}
 }
 
 // graphs puts the cells of several Exprs, those of the first one on the top.
+// All of them are on the stack at once: a text is so short that they are never
+// more than MaxStack, as each takes two bytes of it, or more.
 func (c *coder) graphs(l []syntax.Expr) {
 	for _, e := range slices.Backward(l) {
 		c.graph(e)
