@@ -13,6 +13,24 @@ import (
 // never stands beside api's kinds of outcomes: nothing ever comes.
 const never = -1
 
+// stop is how a meaning ends but with a value.
+type stop int
+
+// stopped tells how the work ends: with a value, or a stop.
+func stopped(work func()) (kind int) {
+	defer func() {
+		switch s := recover().(type) {
+		case nil:
+		case stop:
+			kind = int(s)
+		default:
+			panic(s)
+		}
+	}()
+	work()
+	return api.OfValue
+}
+
 // thunk is worked out when it is needed, and once.
 type thunk struct {
 	work    func() any
@@ -196,12 +214,24 @@ func (m *meaning) op(op int, l, r any) any {
 	if !isLeft || !isRight {
 		panic(stop(api.OfKind))
 	}
-	c := arith(op, a, b)
-	m.move()
-	if c.kind == 'r' {
-		return record{tag: c.number}
+	if op == api.Div && b == 0 {
+		panic(stop(api.OfZero))
 	}
-	return c.number
+	m.move()
+	truth := map[bool]int{true: 1}
+	switch op {
+	case api.Add:
+		return a + b
+	case api.Sub:
+		return a - b
+	case api.Mul:
+		return a * b
+	case api.Div:
+		return a / b
+	case api.Same:
+		return record{tag: truth[a == b]}
+	}
+	return record{tag: truth[a < b]}
 }
 
 func (m *meaning) tell(v any) {

@@ -1,10 +1,12 @@
 package compile
 
 import (
+	"strconv"
 	"strings"
 	"testing"
 
 	"tarn/api"
+	"tarn/link"
 	"tarn/object"
 	"tarn/syntax"
 )
@@ -20,15 +22,36 @@ func made(t *testing.T, texts []string) ([]syntax.Module, []api.Object) {
 			t.Fatalf("%s: %v", s, err)
 		}
 		o := Module(m)
-		if err := object.Values(o); err != nil {
-			t.Fatalf("%s: %v:\n%s", s, err, listing(o))
-		}
-		if err := object.Sound(o); err != nil {
+		if err := object.Check(o); err != nil {
 			t.Fatalf("%s: %v:\n%s", s, err, listing(o))
 		}
 		modules, objects = append(modules, m), append(objects, o)
 	}
 	return modules, objects
+}
+
+// listing is a global's code as text, for the tests to tell.
+func listing(o api.Object) string {
+	names := strings.Fields("Int Glob Push Ap Slide Update Pop Alloc Eval Add Sub Mul Div Same Less Pack Split Case Jump Unwind Fail")
+	var b strings.Builder
+	for _, g := range o.Globals {
+		b.WriteString(g.Name + "/" + strconv.Itoa(g.Arity) + ":")
+		for _, i := range g.Code {
+			b.WriteString(" " + names[i.Op] + " " + strconv.Itoa(i.A))
+		}
+		b.WriteString("\n")
+	}
+	return b.String()
+}
+
+// run links objects, and tells how main goes.
+func run(t *testing.T, fuel int, objects ...api.Object) api.Outcome {
+	t.Helper()
+	p, err := link.Objects(objects, "main")
+	if err != nil {
+		t.Fatalf("%v: %+v", err, objects)
+	}
+	return p.Run(fuel, fuel)
 }
 
 // enough is the fuel and the cells with which a run must come to its end (P10).
@@ -44,7 +67,7 @@ func agree(t *testing.T, texts ...string) int {
 	modules, objects := made(t, texts)
 	kind, text, moves := means(most, modules...)
 	fuel := enough(moves, texts)
-	got := run(min(fuel, api.MaxFuel), objects...)
+	got := run(t, min(fuel, api.MaxFuel), objects...)
 	spent := got.Kind == api.OfFuel || got.Kind == api.OfCells
 	switch {
 	case kind == never && moves > most, kind == api.OfText && spent, fuel > api.MaxFuel && spent:
@@ -65,7 +88,7 @@ func tells(t *testing.T, expr, defs string, kind int, text string) {
 	s := "(module m (def main () " + expr + ") " + defs + ")"
 	agree(t, s)
 	_, objects := made(t, []string{s})
-	got := run(100000, objects...)
+	got := run(t, 100000, objects...)
 	if got.Kind != kind || got.Text != text {
 		t.Errorf("%s: %+v, want %d, %q:\n%s", s, got, kind, text, listing(objects[0]))
 	}
@@ -150,7 +173,7 @@ func TestRowsOfInds(t *testing.T) {
 	} {
 		steps := func(n, uses string) int {
 			_, objects := made(t, []string{"(module m (def main () (let ((v (r " + n + " (+ 1 1)))) (con 0 " + uses + "))) " + def + ")"})
-			return run(api.MaxFuel, objects...).Steps
+			return run(t, api.MaxFuel, objects...).Steps
 		}
 		near, far := steps("1", "v v v")-steps("1", "v v"), steps("500", "v v v")-steps("500", "v v")
 		if far > near+2 {

@@ -25,6 +25,11 @@ var (
 	Jump   = errors.New("goes on where no instruction is")
 	Depth  = errors.New("not the depth of stack that is needed")
 	Value  = errors.New("not a value that may be")
+
+	Missing = errors.New("imported, and exported by none")
+	Arity   = errors.New("imported with another arity than it has")
+	Entry   = errors.New("no entry that can be worked out")
+	Big     = errors.New("more than an image may have")
 )
 
 // Fault: a kind of wrong at its place, to be asked for with errors.As.
@@ -40,7 +45,7 @@ func (f Fault) Error() string {
 // Unwrap gives the kind, so that errors.Is finds it.
 func (f Fault) Unwrap() error { return f.Kind }
 
-// At is a fault at a byte of a text or file.
+// At is a fault at a byte of a text or file, or in the object of this number.
 func At(kind error, at int) error {
 	return Fault{Kind: kind, Place: api.Place{At: at}}
 }

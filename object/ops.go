@@ -70,10 +70,14 @@ func Bounds(op int) (int, int) { return rows[op].least, rows[op].most }
 // PackOf is A of the Pack that makes a record with this tag and so many fields.
 func PackOf(tag, fields int) int { return tag*packTag + fields }
 
+// PackParts tells the tag and how many fields the record has that a Pack with this A makes.
+func PackParts(a int) (tag, fields int) { return a / packTag, a % packTag }
+
 // amount is what the needs of an instruction are counted by.
 func amount(i api.Ins) int {
 	if i.Op == api.Pack {
-		return i.A % packTag
+		_, fields := PackParts(i.A)
+		return fields
 	}
 	return i.A
 }

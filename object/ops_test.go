@@ -45,5 +45,8 @@ func TestPackOf(t *testing.T) {
 		if got := PackOf(c[0], c[1]); got != c[2] {
 			t.Errorf("PackOf(%d, %d) = %d, want %d", c[0], c[1], got, c[2])
 		}
+		if tag, fields := PackParts(c[2]); tag != c[0] || fields != c[1] {
+			t.Errorf("PackParts(%d) = %d, %d, want %d, %d", c[2], tag, fields, c[0], c[1])
+		}
 	}
 }

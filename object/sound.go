@@ -5,6 +5,14 @@ import (
 	"tarn/fault"
 )
 
+// Check looks whether an object's values are good, and whether it is sound.
+func Check(o api.Object) error {
+	if err := Values(o); err != nil {
+		return err
+	}
+	return Sound(o)
+}
+
 // Sound looks whether an object whose values are good is sound.
 func Sound(o api.Object) error {
 	known := len(o.Imports) + len(o.Globals)

@@ -20,7 +20,9 @@ func TestCallsAtOddArguments(t *testing.T) {
 		}
 		Check(s)
 		Compile(s)
-		Link(nil, s)
+		if i, e, at := Link(nil, s); i != nil || e != api.ErrEntry || at != 0 {
+			t.Errorf("P1: Link of nothing, entry %.30q: %v, %d, %d", s, i, e, at)
+		}
 	}
 }
 

@@ -49,6 +49,14 @@ func kind(err error) api.Errno {
 		return api.ErrJump
 	case errors.Is(err, fault.Depth):
 		return api.ErrDepth
+	case errors.Is(err, fault.Missing):
+		return api.ErrMissing
+	case errors.Is(err, fault.Arity):
+		return api.ErrArity
+	case errors.Is(err, fault.Entry):
+		return api.ErrEntry
+	case errors.Is(err, fault.Big):
+		return api.ErrBig
 	}
 	return api.ErrValue // fault.Value: the one kind that is left
 }

@@ -3,6 +3,9 @@ package tarn
 import (
 	"encoding/binary"
 	"hash/crc32"
+	"slices"
+	"strconv"
+	"strings"
 
 	"tarn/api"
 )
@@ -85,4 +88,41 @@ func wholeBody() string {
 		"\x10\x01" + "\x05\x02" + "\x06\x02" + "\x13" +
 		"\x14" +
 		"\x01z\x14\x01\x01\x14"
+}
+
+// asm is code written as text: instructions by their names, each with its A if
+// that is not 0, or with its Alts (tag:to), one behind the other.
+func asm(text string) []api.Ins {
+	names := strings.Fields("Int Glob Push Ap Slide Update Pop Alloc Eval Add Sub Mul Div Same Less Pack Split Case Jump Unwind Fail")
+	var l []api.Ins
+	for _, w := range strings.Fields(text) {
+		tag, to, isAlt := strings.Cut(w, ":")
+		op := slices.Index(names, w)
+		switch a, err := strconv.Atoi(tag); {
+		case isAlt:
+			place, _ := strconv.Atoi(to)
+			l[len(l)-1].Alts = append(l[len(l)-1].Alts, api.Alt{Tag: a, To: place})
+		case err == nil:
+			l[len(l)-1].A = a
+		case op < 0:
+			panic("no instruction: " + w)
+		default:
+			l = append(l, ins(op, 0))
+		}
+	}
+	return l
+}
+
+// module is an object of globals, each written as its name, arity and code; a
+// name with a ! behind it is exported. They are put in order.
+func module(name string, imports []api.Import, globals ...string) api.Object {
+	o := api.Object{Name: name, Imports: imports}
+	for _, g := range globals {
+		w := strings.SplitN(g, " ", 3)
+		arity, _ := strconv.Atoi(w[1])
+		n, export := strings.CutSuffix(w[0], "!")
+		o.Globals = append(o.Globals, api.Global{Name: n, Arity: arity, Export: export, Code: asm(w[2])})
+	}
+	slices.SortFunc(o.Globals, func(a, b api.Global) int { return strings.Compare(a.Name, b.Name) })
+	return o
 }

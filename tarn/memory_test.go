@@ -2,6 +2,7 @@ package tarn
 
 import (
 	"reflect"
+	"strconv"
 	"strings"
 	"testing"
 	"unsafe"
@@ -70,6 +71,59 @@ func TestNothingHandedInIsWrittenInto(t *testing.T) {
 		if !reflect.DeepEqual(spread(in), spread(want)) {
 			t.Errorf("P2: Sound wrote into object %d", k)
 		}
+	}
+}
+
+// together are objects that link, with every kind of list.
+func together() []api.Object {
+	dep := func(name string, arity int) string {
+		return name + "! " + strconv.Itoa(arity) + " Int 3 Slide " + strconv.Itoa(arity+1) + " Unwind"
+	}
+	return []api.Object{
+		whole(),
+		module("m", []api.Import{{Name: "dep0", Arity: 1}}, "main! 0 Glob 1 Eval Case 7:8 2:3 Split 1 Glob 0 Ap Update Unwind Fail", "list 0 Int 4 Pack 513 Update Unwind"),
+		module("n", nil, dep("dep", 20), dep("dep#", 0), dep("dep0", 1)),
+	}
+}
+
+func TestLinkWritesIntoNothing(t *testing.T) {
+	bad := together()
+	bad[2].Globals[2].Arity = 2
+	for _, l := range [][]api.Object{together(), bad, together()[:2], {one(0)}, {whole(), whole()}, together()[2:]} {
+		in, want := roomy(l, whole()), roomy(l, whole())
+		for k := range l {
+			in[k], want[k] = roomyObject(l[k]), roomyObject(l[k])
+		}
+		Link(in, "main")
+		in, want = in[:cap(in)], want[:cap(want)]
+		for k := range in {
+			if !reflect.DeepEqual(spread(in[k]), spread(want[k])) {
+				t.Errorf("P2: Link wrote into object %d of %+v", k, l)
+			}
+		}
+	}
+}
+
+// TestLinkKeepsNothing: what is written into the objects behind Link is not seen in the image.
+func TestLinkKeepsNothing(t *testing.T) {
+	in := roomy(together(), api.Object{})
+	for k := range in {
+		in[k] = roomyObject(in[k])
+	}
+	i, e, at := Link(in, "main")
+	if e != api.OK {
+		t.Fatalf("P8: %d, %d", e, at)
+	}
+	want := i.Run(1000, 1000)
+	if want.Kind != api.OfValue || want.Text != "3" {
+		t.Fatalf("P9: %+v", want)
+	}
+	for _, o := range in {
+		fill(o)
+	}
+	clear(in[:cap(in)])
+	if got := i.Run(1000, 1000); got != want {
+		t.Errorf("P2: the image keeps what was handed in: %+v, want %+v", got, want)
 	}
 }
 

@@ -4,13 +4,17 @@ package tarn
 import (
 	"tarn/api"
 	"tarn/compile"
+	"tarn/link"
+	"tarn/machine"
 	"tarn/object"
 	"tarn/objfile"
 	"tarn/syntax"
 )
 
 // Image: modules that were linked.
-type Image struct{}
+type Image struct {
+	program machine.Program
+}
 
 // Check looks at a module's text (P6).
 func Check(text string) (api.Errno, int) {
@@ -29,10 +33,7 @@ func Compile(text string) (api.Object, api.Errno, int) {
 
 // Sound looks at an object (P3).
 func Sound(o api.Object) (api.Errno, api.Place) {
-	err := object.Values(o)
-	if err == nil {
-		err = object.Sound(o)
-	}
+	err := object.Check(o)
 	return kind(err), place(err)
 }
 
@@ -49,7 +50,15 @@ func Decode(file string) (api.Object, api.Errno, api.Place) {
 }
 
 // Link makes an image (P8).
-func Link(l []api.Object, entry string) (*Image, api.Errno, int) { return nil, api.OK, 0 }
+func Link(l []api.Object, entry string) (*Image, api.Errno, int) {
+	p, err := link.Objects(l, entry)
+	if err != nil {
+		return nil, kind(err), place(err).At
+	}
+	return &Image{program: p}, api.OK, 0
+}
 
 // Run works out what the entry means (P9).
-func (i *Image) Run(fuel int, cells int) api.Outcome { return api.Outcome{} }
+func (i *Image) Run(fuel int, cells int) api.Outcome {
+	return i.program.Run(fuel, cells)
+}

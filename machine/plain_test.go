@@ -1,13 +1,13 @@
-package compile
+package machine_test
 
 import (
 	"strconv"
-	"strings"
 
 	"tarn/api"
 )
 
-// cell of the tests' machine, which follows the document's words and nothing else.
+// A second machine, which follows the document's words and nothing else.
+
 type cell struct {
 	kind   byte // 'n' a number, 'a' App, 'r' a record, 'g' a global, 'i' Ind, 'h' Hole
 	number int  // of a number; the tag of a record; the arity of a global
@@ -28,21 +28,22 @@ type machine struct {
 	wait        // the stack, the code and the place
 	dump        []wait
 	fuel, cells int
-	most        int
 	text        string
+	seen        map[string]int // how often it came to what is rare
 }
 
 // stop is how a run ends but with a value.
 type stop int
 
-// run links objects whose names fit together, and tells how main goes.
-func run(fuel int, objects ...api.Object) (out api.Outcome) {
-	m := &machine{fuel: fuel, cells: fuel}
+// run links objects whose names fit together, and tells how main goes, with
+// fuel and cells that are within the limits.
+func run(fuel, cells int, seen map[string]int, objects ...api.Object) (out api.Outcome) {
+	m := &machine{fuel: fuel, cells: cells, seen: seen}
 	out.Kind = stopped(func() { m.tell(m.evaluate(load(objects)["main"])) })
 	if out.Kind == api.OfValue {
 		out.Text = m.text
 	}
-	out.Steps, out.Cells = fuel-m.fuel, fuel-m.cells
+	out.Steps, out.Cells = fuel-m.fuel, cells-m.cells
 	return out
 }
 
@@ -94,12 +95,23 @@ func (m *machine) step() {
 	m.fuel--
 }
 
-func (m *machine) make(c cell) *cell {
-	if m.cells == 0 {
+// claim is room for n new cells.
+func (m *machine) claim(n int) {
+	if m.cells < n {
 		panic(stop(api.OfCells))
 	}
-	m.cells--
+	m.cells -= n
+}
+
+func (m *machine) make(c cell) *cell {
+	m.claim(1)
 	return &c
+}
+
+func (m *machine) see(is bool, what string) {
+	if is {
+		m.seen[what]++
+	}
 }
 
 func (m *machine) push(c *cell) { m.stack = append(m.stack, c) }
@@ -166,6 +178,7 @@ func (m *machine) unwind() bool {
 				m.enter(c)
 				return true
 			}
+			m.see(m.stack[0].kind == 'i', "a function whose cell is an Ind")
 			return m.give(m.stack[0])
 		default:
 			if len(m.stack) > 1 {
@@ -195,6 +208,7 @@ func (m *machine) enter(g *cell) {
 		for range g.number {
 			last = m.pop()
 			if last.kind != 'a' {
+				m.see(true, "a call that is no App any more")
 				panic(stop(api.OfKind))
 			}
 			args = append(args, last.cells[1])
@@ -227,18 +241,20 @@ func (m *machine) ins() bool {
 		m.stack = append(m.stack[:len(m.stack)-i.A], c)
 	case api.Update:
 		c := m.pop()
+		m.see((*m.top(i.A)).kind == 'g' && (*m.top(i.A)).number > 0, "an update of a function")
+		m.see((*m.top(i.A)).kind == 'r', "an update of a record")
 		**m.top(i.A) = cell{kind: 'i', cells: []*cell{c}}
 	case api.Pop:
 		m.stack = m.stack[:len(m.stack)-i.A]
 	case api.Alloc:
+		m.claim(i.A)
 		for range i.A {
-			m.push(m.make(cell{kind: 'h'}))
+			m.push(&cell{kind: 'h'})
 		}
 	case api.Eval:
 		c := m.pop()
 		m.dump = append(m.dump, m.wait)
 		m.stack = []*cell{c}
-		m.most = max(m.most, len(m.dump))
 		return m.unwind()
 	case api.Unwind:
 		return m.unwind()
@@ -310,18 +326,4 @@ func arith(op, l, r int) cell {
 		panic(stop(api.OfZero))
 	}
 	return cell{kind: 'n', number: l / r}
-}
-
-// listing is a global's code as text, for the tests to tell.
-func listing(o api.Object) string {
-	names := strings.Fields("Int Glob Push Ap Slide Update Pop Alloc Eval Add Sub Mul Div Same Less Pack Split Case Jump Unwind Fail")
-	var b strings.Builder
-	for _, g := range o.Globals {
-		b.WriteString(g.Name + "/" + strconv.Itoa(g.Arity) + ":")
-		for _, i := range g.Code {
-			b.WriteString(" " + names[i.Op] + " " + strconv.Itoa(i.A))
-		}
-		b.WriteString("\n")
-	}
-	return b.String()
 }
