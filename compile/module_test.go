@@ -78,8 +78,26 @@ func agree(t *testing.T, texts ...string) int {
 		}
 	case got.Kind != kind || got.Text != text:
 		t.Fatalf("%s: means %d, %q with %d moves, the machine tells %+v:\n%s", texts, kind, text, moves, got, listing(objects[0]))
+	default:
+		less(t, got, objects)
 	}
 	return kind
+}
+
+// less looks that with less fuel or fewer cells a run tells the same, FUEL or CELLS.
+func less(t *testing.T, want api.Outcome, objects []api.Object) {
+	t.Helper()
+	p, err := link.Objects(objects, "main")
+	if err != nil {
+		t.Fatal(err)
+	}
+	for _, most := range []int{want.Steps - 1, want.Steps / 2, want.Steps / 9, want.Cells - 1, want.Cells / 2} {
+		got := p.Run(most, most)
+		spent := (got.Kind == api.OfFuel || got.Kind == api.OfCells) && got.Text == ""
+		if !spent && got != want {
+			t.Fatalf("%+v, but with %d %+v:\n%s", want, most, got, listing(objects[0]))
+		}
+	}
 }
 
 // tells looks that main, the first of these defs, comes to this.

@@ -2,6 +2,7 @@ package compile
 
 import (
 	"math/rand"
+	"slices"
 	"strconv"
 	"strings"
 	"testing"
@@ -206,8 +207,15 @@ func (c *chance) def(p proto) string {
 	return "(def " + p.name + " (" + strings.Join(params, " ") + ") " + body + ")"
 }
 
-// text is a module; room is how long it is about.
-func (c *chance) text(room int) string {
+// written is a def by chance, as it stands in a text.
+type written struct {
+	name  string
+	arity int
+	text  string
+}
+
+// defs are those of a program; room is how long they are about.
+func (c *chance) defs(room int) []written {
 	c.protos = []proto{{"inc", []sort{whole}, whole}, {"add", []sort{whole, whole}, whole}}
 	for k := range 1 + c.Intn(3) {
 		p := proto{name: "f" + strconv.Itoa(k), gives: sort(c.Intn(4))}
@@ -217,12 +225,36 @@ func (c *chance) text(room int) string {
 		c.protos = append(c.protos, p)
 	}
 	c.left = room
-	s := "(module m (def inc (x) (+ x 1)) (def add (x y) (+ x y))"
+	l := []written{{"inc", 1, "(def inc (x) (+ x 1))"}, {"add", 2, "(def add (x y) (+ x y))"}}
 	for _, p := range c.protos[2:] {
-		s += c.def(p)
+		l = append(l, written{p.name, len(p.params), c.def(p)})
 	}
 	c.left += room / 2
-	return s + c.def(proto{name: "main", gives: c.mainSort()}) + ")"
+	return append(l, written{"main", 0, c.def(proto{name: "main", gives: c.mainSort()})})
+}
+
+// apart puts each def into one of so many modules; each of these imports the defs of the others.
+func (c *chance) apart(l []written, modules int) []string {
+	var own, others [api.MaxModules]string
+	for _, d := range l {
+		in := c.Intn(modules)
+		for k := range modules {
+			if k == in {
+				own[k] += d.text
+			} else {
+				others[k] += "(import " + d.name + " " + strconv.Itoa(d.arity) + ")"
+			}
+		}
+	}
+	var texts []string
+	for k := range modules {
+		texts = append(texts, "(module m"+strconv.Itoa(k)+" "+others[k]+own[k]+")")
+	}
+	return texts
+}
+
+func tooLong(texts []string) bool {
+	return slices.ContainsFunc(texts, func(s string) bool { return len(s) > api.MaxText })
 }
 
 func (c *chance) mainSort() sort {
@@ -237,13 +269,36 @@ func TestTextsByChance(t *testing.T) {
 	c := &chance{Rand: rand.New(rand.NewSource(1))}
 	seen := map[int]int{}
 	for range 2500 {
-		s := c.text(20 + c.Intn(250))
-		if len(s) <= api.MaxText {
-			seen[agree(t, s)]++
+		texts := c.apart(c.defs(20+c.Intn(250)), 1)
+		if !tooLong(texts) {
+			seen[agree(t, texts...)]++
 		}
 	}
 	for _, kind := range []int{api.OfValue, api.OfKind, api.OfMatch, api.OfZero, never} {
 		if seen[kind] < 5 {
+			t.Errorf("%d of the texts come to %d: these say too little", seen[kind], kind)
+		}
+	}
+}
+
+// TestModulesByChance: the same defs in several modules mean what they mean in one.
+func TestModulesByChance(t *testing.T) {
+	c := &chance{Rand: rand.New(rand.NewSource(2))}
+	seen := map[int]int{}
+	for range 1000 {
+		l := c.defs(20 + c.Intn(250))
+		one, several := c.apart(l, 1), c.apart(l, 2+c.Intn(api.MaxModules-1))
+		if tooLong(one) || tooLong(several) {
+			continue
+		}
+		kind, other := agree(t, one...), agree(t, several...)
+		if kind != other {
+			t.Errorf("%s: %d, but %s: %d", one, kind, several, other)
+		}
+		seen[kind]++
+	}
+	for _, kind := range []int{api.OfValue, api.OfKind, api.OfMatch, api.OfZero, never} {
+		if seen[kind] < 2 {
 			t.Errorf("%d of the texts come to %d: these say too little", seen[kind], kind)
 		}
 	}
